@@ -72,16 +72,3 @@ func (c *Core) place(x instruction) uint16 {
 	at, _ := modes.Address(x.mode, x.behind, c.s.X, c.s.Y, word)
 	return at
 }
-
-// register is the register of a letter; A, if there is none.
-func (c *Core) register(letter byte) *byte {
-	switch letter {
-	case 'X':
-		return &c.s.X
-	case 'Y':
-		return &c.s.Y
-	case 'S':
-		return &c.s.S
-	}
-	return &c.s.A
-}

@@ -2,15 +2,15 @@ package isa
 
 import (
 	"gannet/api"
+	"gannet/effect"
 	"gannet/flags"
 	"gannet/irq"
 	"gannet/modes"
-	"gannet/octet"
 )
 
 // leave does what may go on elsewhere.
 func (c *Core) leave(x instruction) {
-	switch x.family() {
+	switch effect.Family(x.name) {
 	case "BRA":
 		c.branch(x)
 	case "BBR", "BBS":
@@ -26,31 +26,10 @@ func (c *Core) leave(x instruction) {
 	case "BRK":
 		c.stop()
 	default:
-		if flag, on := condition(x.name); flags.Goes(c.s.P, flag, on) {
+		if effect.Goes(x.name, c.s.P, 0) {
 			c.branch(x)
 		}
 	}
-}
-
-// condition is the flag by which a branch goes, and what it must be.
-func condition(name string) (byte, bool) {
-	switch name {
-	case "BPL":
-		return api.FlagN, false
-	case "BMI":
-		return api.FlagN, true
-	case "BVC":
-		return api.FlagV, false
-	case "BVS":
-		return api.FlagV, true
-	case "BCC":
-		return api.FlagC, false
-	case "BCS":
-		return api.FlagC, true
-	case "BNE":
-		return api.FlagZ, false
-	}
-	return api.FlagZ, true
 }
 
 // branch goes as far as the distance behind tells.
@@ -69,7 +48,7 @@ func (c *Core) target(x instruction) uint16 {
 func (c *Core) branchByBit(x instruction) {
 	v := c.read(api.Load, c.place(x))
 	c.idle(1)
-	if octet.Bit(v, x.bit()) == (x.family() == "BBS") {
+	if effect.Goes(x.name, c.s.P, v) {
 		c.branch(x)
 	}
 }
@@ -119,14 +98,11 @@ func (c *Core) keep(x instruction) {
 	c.idle(1)
 	switch x.name {
 	case "PHA", "PHX", "PHY":
-		c.push(*c.register(x.letter()))
+		c.push(effect.Kept(x.name, c.s))
 	case "PHP":
 		c.push(flags.Pushed(c.s.P, true))
-	case "PLP":
-		c.idle(1)
-		c.s.P = flags.Pulled(c.pull())
 	default:
 		c.idle(1)
-		c.load(x.letter(), c.pull())
+		effect.Take(&c.s, x.name, c.pull())
 	}
 }
